@@ -1,6 +1,5 @@
 import contextlib
 import io
-import unittest
 
 import nameserve.zones
 from nameserve.zones import answer
@@ -121,7 +120,3 @@ class LargeInputs(Case):
         behind = bytes(65535 - 12 - len(question))
         self.answers(self.large_zone(), query(question + behind, counts=(1, 0, 0, 65535)),
                      reply(question, OWN, 0, (1, 0, 0), record(led(12), A, b"\x0a\x01\x00\x00")))
-
-
-if __name__ == "__main__":
-    unittest.main()

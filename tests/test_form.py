@@ -102,8 +102,8 @@ class Code(unittest.TestCase):
             if isinstance(node, ast.Constant):
                 self.assertIn(type(node.value), (int, str, bool, type(None)), where)
                 self.assertNotIn("%", str(node.value), where)
-            if isinstance(node, (ast.Is, ast.IsNot)):
-                continue
+            if isinstance(node, ast.Compare) and isinstance(node.ops[0], (ast.Is, ast.IsNot)):
+                self.assertIn(ast.unparse(node.comparators[0]), ("None", "True", "False"), where)
             if isinstance(node, ast.comprehension):
                 self.assertLessEqual(len(node.ifs), 1, where)
             if isinstance(node, ast.ListComp):
